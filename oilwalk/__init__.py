@@ -1,0 +1,1 @@
+"""Oilwalk: round ways that are walked with a lantern."""

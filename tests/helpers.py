@@ -1,0 +1,30 @@
+"""What several test files use."""
+
+# Values that are not numbers for the package, whatever the limits are.
+NO_NUMBERS = (None, True, False, "", "1", "one", [], [1], (), (1,), (1, 2), [(1, 2)], 1.0, 0.5)
+
+
+def walk(capacity, posts, post, oil, legs):
+    """Walk one leg after another; return the oil on arrival or None."""
+    for _ in range(legs):
+        oil = min(capacity, oil + posts[post][0])
+        if oil < posts[post][1]:
+            return None
+        oil -= posts[post][1]
+        post = (post + 1) % len(posts)
+    return oil
+
+
+def numbers(stretch):
+    return (stretch.need, stretch.gain, stretch.top)
+
+
+def raised(error, call, *arguments):
+    """Return the error of just this class that the call raises."""
+    try:
+        result = call(*arguments)
+    except error as caught:
+        if caught.__class__ is not error:
+            raise AssertionError(f"{caught.__class__.__name__} instead of {error.__name__}") from caught
+        return caught
+    raise AssertionError(f"no {error.__name__}, but {result!r}")
