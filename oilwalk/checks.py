@@ -32,3 +32,9 @@ def check_number_within(value, least, most):
 def check_post(value, many):
     if not is_number_within(value, 0, many - 1):
         raise UnknownPost("not the number of a post")
+
+
+def check_start(way, post, oil):
+    """Check the post at which a walk begins, then the oil on arrival at it."""
+    check_post(post, len(way))
+    check_number_within(oil, 0, way.capacity)

@@ -1,7 +1,12 @@
 """What several test files use."""
 
+import random
+
 # Values that are not numbers for the package, whatever the limits are.
 NO_NUMBERS = (None, True, False, "", "1", "one", [], [1], (), (1,), (1, 2), [(1, 2)], 1.0, 0.5)
+
+BILLION = 10 ** 9
+GREAT = 10 ** 18
 
 
 def walk(capacity, posts, post, oil, legs):
@@ -13,6 +18,29 @@ def walk(capacity, posts, post, oil, legs):
         oil -= posts[post][1]
         post = (post + 1) % len(posts)
     return oil
+
+
+def arrivals(capacity, posts, post, oil, legs):
+    """Walk one leg after another; return the oil on each arrival, and None or the steps until it goes out."""
+    found = []
+    for _ in range(legs):
+        oil = min(capacity, oil + posts[post][0])
+        if oil < posts[post][1]:
+            return found, oil
+        oil -= posts[post][1]
+        found.append(oil)
+        post = (post + 1) % len(posts)
+    return found, None
+
+
+def some_rows(seed, many, most_posts, most_oil, most_steps, most_capacity):
+    """Return capacities and posts of small ways, equally many with each number of posts."""
+    told = random.Random(seed)
+    found = []
+    for at in range(many):
+        rows = [(told.randint(0, most_oil), told.randint(1, most_steps)) for _ in range(at % most_posts + 1)]
+        found.append((told.randint(1, most_capacity), tuple(rows)))
+    return found
 
 
 def numbers(stretch):

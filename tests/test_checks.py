@@ -3,6 +3,7 @@ import unittest
 from helpers import NO_NUMBERS, raised
 from oilwalk import checks
 from oilwalk.errors import InvalidNumber, UnknownPost
+from oilwalk.ways import Way
 
 
 class Numbers(unittest.TestCase):
@@ -39,6 +40,14 @@ class Numbers(unittest.TestCase):
         self.assertIsNone(checks.check_post(2, 3))
         raised(UnknownPost, checks.check_post, 3, 3)
         raised(UnknownPost, checks.check_post, -1, 3)
+
+    def test_starts_of_walks(self):
+        way = Way(5, (1, 2), (3, 4))
+        for post, oil in ((0, 0), (1, 0), (0, 5), (1, 5)):
+            self.assertIsNone(checks.check_start(way, post, oil))
+        raised(UnknownPost, checks.check_start, way, 2, 6)
+        raised(InvalidNumber, checks.check_start, way, 1, 6)
+        raised(InvalidNumber, checks.check_start, way, 1, -1)
 
 
 if __name__ == "__main__":

@@ -1,10 +1,11 @@
 """The names of the interface, and what can be told of the files as texts."""
 
 import ast
+import inspect
 import pathlib
 import unittest
 
-from oilwalk import stretches, ways
+from oilwalk import live, planning, stretches, walking, ways
 
 PACKAGE = pathlib.Path(__file__).resolve().parent.parent / "oilwalk"
 LIBRARY = ("__future__", "heapq", "math", "itertools", "collections")
@@ -27,6 +28,17 @@ class Interface(unittest.TestCase):
         for member in properties:
             self.assertIsInstance(vars(found)[member], property)
 
+    def check_arguments(self, call, told):
+        self.assertEqual(str(inspect.signature(call)), f"({told})")
+
+    def check_functions(self, module, told):
+        for name, arguments in told.items():
+            with self.subTest(name):
+                found = getattr(module, name)
+                self.assertTrue(inspect.isfunction(found))
+                self.assertEqual(found.__module__, module.__name__)
+                self.check_arguments(found, arguments)
+
     def test_stretch(self):
         members = ["__init__", "__call__", "__bool__", "__add__", "__mul__", "__eq__"]
         self.check_class(stretches, "Stretch", members, ["need", "gain", "top"])
@@ -37,6 +49,42 @@ class Interface(unittest.TestCase):
         members.extend(["with_post", "with_capacity", "stretch"])
         self.check_class(ways, "Way", members, ["capacity", "posts", "surplus"])
         self.assertIsInstance(vars(ways.Way)["even"], classmethod)
+
+    def test_walking(self):
+        self.check_functions(walking, {
+            "oil_after": "way, post, oil, legs",
+            "is_endless": "way, post, oil",
+            "goes_out": "way, post, oil",
+            "settled": "way, post, oil",
+            "least_oil": "way, post",
+            "good_posts": "way",
+            "first_unlike": "way, other, post, oil",
+        })
+
+    def test_planning(self):
+        self.check_functions(planning, {
+            "judge_stretch": "way, post, legs",
+            "worst_stretch": "way",
+            "least_capacity": "way",
+            "helpful_posts": "way",
+            "fewest_stops": "way, post, oil, legs",
+            "stops_needed": "way, post, oil, legs",
+        })
+
+    def test_live_walk(self):
+        told = {
+            "walk": "legs", "spill": "oil", "refill": "post, oil", "trade": "capacity",
+            "undo": "", "redo": "", "apply": "*operations", "oil_with": "*operations",
+        }
+        members = ["__init__", "__enter__", "__exit__", *told]
+        properties = ["way_now", "post_now", "oil_now", "walked", "history"]
+        self.check_class(live, "LiveWalk", members, properties)
+        self.assertIsInstance(vars(live.LiveWalk)["replay"], classmethod)
+        self.check_arguments(live.LiveWalk, "way, post, oil")
+        self.check_arguments(live.LiveWalk.replay, "way, post, oil, operations")
+        for name, arguments in told.items():
+            with self.subTest(name):
+                self.check_arguments(vars(live.LiveWalk)[name], ", ".join(["self", arguments]).removesuffix(", "))
 
 
 class Files(unittest.TestCase):
