@@ -197,7 +197,7 @@ def _arrivals(now, legs):
             raise GoesOut(leg, taken(now.way, post, oil))
         arrivals.append(left)
         oil = left
-        post = (post + 1) % len(now.way)
+        post = int(post + 1) % len(now.way)
     return arrivals
 
 

@@ -58,7 +58,7 @@ def _lacks(posts, first, legs):
     lack = ahead[0][0]
     lacks = []
     for leg in range(legs):
-        oil, steps = ahead[leg % len(ahead)]
+        oil, steps = ahead[int(leg) % len(ahead)]
         lack = lack - oil + steps
         lacks.append(lack)
     return lacks

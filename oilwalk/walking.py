@@ -89,6 +89,6 @@ def first_unlike(way, other, post, oil):
             return walked + 1
         if one_oil is None:
             return None
-        one_post = (one_post + 1) % len(way)
-        other_post = (other_post + 1) % len(other)
+        one_post = int(one_post + 1) % len(way)
+        other_post = int(other_post + 1) % len(other)
     return None

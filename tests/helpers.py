@@ -2,6 +2,8 @@
 
 import random
 
+from oilwalk.ways import Way
+
 # Values that are not numbers for the package, whatever the limits are.
 NO_NUMBERS = (None, True, False, "", "1", "one", [], [1], (), (1,), (1, 2), [(1, 2)], 1.0, 0.5)
 
@@ -40,6 +42,18 @@ def some_rows(seed, many, most_posts, most_oil, most_steps, most_capacity):
     for at in range(many):
         rows = [(told.randint(0, most_oil), told.randint(1, most_steps)) for _ in range(at % most_posts + 1)]
         found.append((told.randint(1, most_capacity), tuple(rows)))
+    return found
+
+
+def ways_of_all_sizes(seed):
+    """Return ways of 1 to 12 posts with small, with any, and with the least and the greatest numbers."""
+    told = random.Random(seed)
+    found = [Way(capacity, *rows) for capacity, rows in some_rows(seed, 120, 12, 400, 400, 400)]
+    for many in range(1, 13):
+        rows = [(told.randint(0, BILLION), told.randint(1, BILLION)) for _ in range(many)]
+        found.append(Way(told.randint(1, BILLION), *rows))
+        found.append(Way.even(BILLION, many, BILLION, BILLION))
+        found.append(Way.even(1, many, 0, 1))
     return found
 
 

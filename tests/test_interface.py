@@ -5,7 +5,7 @@ import inspect
 import pathlib
 import unittest
 
-from oilwalk import live, planning, stretches, walking, ways
+from oilwalk import codec, live, notation, planning, stretches, walking, watching, ways
 
 PACKAGE = pathlib.Path(__file__).resolve().parent.parent / "oilwalk"
 LIBRARY = ("__future__", "heapq", "math", "itertools", "collections")
@@ -85,6 +85,36 @@ class Interface(unittest.TestCase):
         for name, arguments in told.items():
             with self.subTest(name):
                 self.check_arguments(vars(live.LiveWalk)[name], ", ".join(["self", arguments]).removesuffix(", "))
+
+    def test_oil_observer(self):
+        told = {
+            "how_many": "", "see": "start, held, legs, left", "left_range": "start, held, legs",
+            "least_endless": "start, held",
+        }
+        found = watching.OilObserver
+        members = ["__init__", "__contains__", *told]
+        self.check_class(watching, "OilObserver", members, ["oil_range", "observations"])
+        self.assertIsInstance(vars(found)["from_log"], classmethod)
+        self.check_arguments(found, "way, post")
+        self.check_arguments(found.from_log, "way, post, *observations")
+        for name, arguments in told.items():
+            with self.subTest(name):
+                self.check_arguments(vars(found)[name], ", ".join(["self", arguments]).removesuffix(", "))
+
+    def test_notation(self):
+        self.check_functions(notation, {
+            "format_way": "way",
+            "parse_way": "text",
+            "log_text": "way, post, oil, legs",
+        })
+
+    def test_codec(self):
+        self.check_functions(codec, {
+            "pack_bytes": "values",
+            "unpack_bytes": "data",
+            "encode_way": "way",
+            "decode_way": "data",
+        })
 
 
 class Files(unittest.TestCase):
